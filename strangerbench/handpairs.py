@@ -1,0 +1,13 @@
+"""Pairs of hands, and where their rights are at home."""
+
+
+def pairs_of(hands):
+    """All pairs of unlike hands, in whatever order these come: a rising tuple."""
+    rising = sorted(hands)
+    return tuple([(one, other) for at, one in enumerate(rising) for other in rising[at + 1:]])
+
+
+def home_of(pair):
+    """The town in which the right of the pair is from the beginning."""
+    _, greater = pair
+    return greater[0]
