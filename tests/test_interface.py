@@ -1,0 +1,80 @@
+"""The names of the interface: where each is defined, and which arguments it takes."""
+import importlib
+import inspect
+import unittest
+
+# Behind the * stand those that go by name alone; what follows = may be left out.
+INTERFACE = {
+    "rightkinds": {
+        "is_word": "thing", "is_hand": "thing", "is_pair": "thing", "is_row": "thing", "is_rights": "thing",
+        "is_heard": "thing",
+    },
+    "handpairs": {"pairs_of": "hands", "home_of": "pair"},
+    "holdings": {
+        "row_of": "rights town pair", "is_mine": "rights town pair", "burn_bars": "rights town pair * day",
+        "burnt": "rights town pairs * day span",
+    },
+    "giving": {
+        "given_to": "rights town pair to * rise", "letter_of": "rights town pair",
+        "taken": "rights town letter * heard",
+    },
+    "roundings": {
+        "rounded": "town tells * heard span", "round_paper": "town tells * heard",
+        "rounded_by": "town tells paper * heard span",
+    },
+    "townlooks": {"mine_at": "tells pair", "held_twice": "tells * wary=()"},
+    "matterkinds": {
+        "is_name": "thing", "is_note": "thing", "is_matter": "thing", "are_burnings": "thing", "is_book": "thing",
+        "first_book": "town",
+    },
+    "paths": {"path_of": "matters name", "path_voices": "matters name", "root_of": "matters name"},
+    "bookchecker": {"lets_book": "rule thing"},
+    "letting": {
+        "lacks": "rule book name hands * day", "let_in": "rule book name hands * day",
+        "each_alone": "rule book name hands * day",
+    },
+    "matterdeeds": {
+        "opened": "rule book hands * day lower=None", "seated": "rule book name hand * day", "left": "book name hand",
+        "voted": "rule book name hand * verdict='yes'", "laid": "book name", "risen": "book * rise",
+    },
+    "sway": {"swayed": "rule table burnings hands * day", "most_of": "rule table burnings hands"},
+    "bounding": {"bound_of": "rule many", "greatest": "rule table burnings many * most=1000"},
+    "benches": {
+        "is_call": "thing", "benches_of": "call", "unfree": "call hands",
+        "call_at": "rights town hands * day seats",
+    },
+    "bringing": {"where_lies": "tells pair", "brought": "tells town hands * day seats"},
+    "errors": {},
+}
+REFUSALS = ("BenchError", "LackError", "NoPaper", "NoRight", "NoMatter", "NoDeed", "NoText", "NoMore", "NoRow",
+            "NoTown", "NoHand", "NoName", "NoStep")
+
+
+def arguments_of(function):
+    """The arguments as the table above tells them."""
+    words, by_name = [], False
+    for one in inspect.signature(function).parameters.values():
+        if one.kind == one.KEYWORD_ONLY and not by_name:
+            words.append("*")
+            by_name = True
+        words.append(one.name if one.default is one.empty else f"{one.name}={one.default!r}")
+    return " ".join(words)
+
+
+class TestInterface(unittest.TestCase):
+    def test_functions(self):
+        for file, functions in INTERFACE.items():
+            module = importlib.import_module("strangerbench." + file)
+            for name, arguments in functions.items():
+                function = getattr(module, name)
+                self.assertEqual(function.__module__, module.__name__, name)
+                self.assertEqual(arguments_of(function), arguments, name)
+
+    def test_refusals(self):
+        module = importlib.import_module("strangerbench.errors")
+        for name in REFUSALS:
+            self.assertEqual(getattr(module, name).__module__, module.__name__)
+
+
+if __name__ == "__main__":
+    unittest.main()
