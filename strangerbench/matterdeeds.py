@@ -5,16 +5,20 @@ from strangerbench.letting import let_in, open_matter, with_hands, with_matter
 from strangerbench.matterkinds import VERDICTS
 
 
+def next_name(book):
+    """The name of the matter that is opened next."""
+    town, rise, _, matters, _ = book
+    return (town, rise, len([matter for matter in matters if matter[0][1] == rise]))
+
+
 def opened(rule, book, hands, *, day, lower=None):
     """The book with a matter more, these hands at its seats and let in."""
-    town, rise, _, matters, _ = book
-    with_verdict = [matter[0] for matter in matters if matter[6] in VERDICTS]
+    with_verdict = [matter[0] for matter in book[3] if matter[6] in VERDICTS]
     if lower is not None and lower not in with_verdict:
         raise NoMatter("lower")
     if len(hands) > rule[1]:
         raise NoMatter("full")
-    number = len([matter for matter in matters if matter[0][1] == rise])
-    name = (town, rise, number)
+    name = next_name(book)
     bare = with_matter(book, (name, lower, hands, (), (), (), None))
     return let_in(rule, bare, name, hands, day=day)
 

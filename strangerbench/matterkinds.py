@@ -1,7 +1,7 @@
-"""Looks by kind, of any thing: names, notes, matters, burnings, books; the first book."""
+"""Looks by kind, of any thing: names, notes, matters, burnings, books, rows that begin with a word; the first book."""
 
-from strangerbench.rightkinds import are_hands, is_count, is_hand, is_pair, is_rights
-from strangerbench.rightkinds import is_tuple_of, is_word, rises
+from strangerbench.rightkinds import are_hands, is_count, is_hand, is_heard, is_pair, is_rights
+from strangerbench.rightkinds import is_row, is_tuple_of, is_word, rises
 
 VERDICTS = ("yes", "no")
 ENDS = ("yes", "no", "laid", "broken")
@@ -79,3 +79,42 @@ def is_book(thing):
 def first_book(town):
     """The book with which a town begins."""
     return (town, 0, (0, 0, ()), (), ())
+
+
+def word_of(thing):
+    """The text with which a tuple begins; the void text of any other thing."""
+    if type(thing) is tuple and thing and type(thing[0]) is str:
+        return thing[0]
+    return ""
+
+
+def are_of(kinds, things):
+    """Whether there are as many things as kinds, each of the kind at its place."""
+    return len(things) == len(kinds) and all([is_of(kind, thing) for kind, thing in zip(kinds, things)])
+
+
+def is_of(kind, thing):
+    """Whether the thing is of the kind that is called so."""
+    if kind == "count":
+        return is_count(thing)
+    if kind == "town":
+        return is_word(thing)
+    if kind == "hand":
+        return is_hand(thing)
+    if kind == "hands":
+        return are_hands(thing)
+    if kind == "pair":
+        return is_pair(thing)
+    if kind == "row":
+        return is_row(thing)
+    if kind == "rights":
+        return is_rights(thing)
+    if kind == "heard":
+        return is_heard(thing)
+    if kind == "name":
+        return is_name(thing)
+    if kind == "lower":
+        return thing is None or is_name(thing)
+    if kind == "note":
+        return is_note(thing)
+    return kind == "verdict" and thing in VERDICTS

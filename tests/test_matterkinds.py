@@ -1,7 +1,7 @@
 import copy
 import unittest
 
-from samples import ANN, ANY_THINGS, BOB, CAT, DAN, EVE
+from samples import ANN, ANY_THINGS, BOB, CAT, DAN, EVE, with_part
 from strangerbench.matterkinds import are_burnings, first_book, is_book, is_matter, is_name, is_note
 
 NAME = ("elm", 0, 0)
@@ -10,11 +10,6 @@ NOTE = (("oak", 0, 0), (ANN, BOB), "yes")
 MATTER = (NAME, None, (ANN, BOB), (ANN, BOB, CAT), (NOTE,), ((ANN, "yes"), (BOB, "no")), None)
 BURNING = ((ANN, BOB), NAME, 4)
 BOOK = ("elm", 1, (0, 0, ()), (MATTER,), (BURNING,))
-
-
-def with_part(thing, at, part):
-    """The tuple with another part at this place."""
-    return thing[:at] + (part,) + thing[at + 1:]
 
 
 class TestMatterKinds(unittest.TestCase):

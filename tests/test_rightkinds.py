@@ -1,17 +1,12 @@
 import copy
 import unittest
 
-from samples import ANN, ANY_THINGS, BOB, CAT, DAN, EVE
+from samples import ANN, ANY_THINGS, BOB, CAT, DAN, EVE, with_part
 from strangerbench.rightkinds import is_hand, is_heard, is_pair, is_rights, is_row, is_word
 
 LOOKS = (is_word, is_hand, is_pair, is_row, is_rights, is_heard)
 ROW = ((ANN, BOB), (0, 1), "elm", "oak", 0, 12, True)
 LATER = ((ANN, CAT), (0, 0), "oak", "oak", 0, 0, False)
-
-
-def with_part(thing, at, part):
-    """The tuple with another part at this place."""
-    return thing[:at] + (part,) + thing[at + 1:]
 
 
 class TestRightKinds(unittest.TestCase):
