@@ -11,3 +11,12 @@ def home_of(pair):
     """The town in which the right of the pair is from the beginning."""
     _, greater = pair
     return greater[0]
+
+
+def both_ways(pairs):
+    """The pairs, each in both orders of its hands: a dict of truths."""
+    together = {}
+    for one, other in pairs:
+        together[(one, other)] = True
+        together[(other, one)] = True
+    return together

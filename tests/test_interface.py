@@ -51,6 +51,17 @@ INTERFACE = {
     "letterkinds": {"is_letter": "thing", "is_chest": "thing", "is_act": "thing"},
     "chests": {"first_chest": "rule town", "saved_of": "chest", "risen_chest": "rule saved * rise day"},
     "letterscome": {"came": "rule chest letter"},
+    "righttexts": {"rights_text": "rights"},
+    "records": {
+        "names_told": "record", "voices_told": "record name", "votes_told": "record name", "burnings_told": "record",
+        "bar_told": "record name hands * day span",
+    },
+    "nonepapers": {"seat_or_none": "call"},
+    "nonechecker": {"lets_seating": "call thing"},
+    "packing": {"packing_of": "call * most=35"},
+    "packpapers": {"pack_paper": "call * most=35"},
+    "packchecker": {"lets_packing": "call thing * most=35"},
+    "townacts": {"acted": "rule chest act * day"},
     "bringing": {"where_lies": "tells pair", "brought": "tells town hands * day seats"},
     "errors": {},
 }

@@ -1,10 +1,21 @@
 """The rules of the language that a file shows by itself: sizes, signs, statements, imports."""
 import ast
+import builtins
 import pathlib
 import unittest
 
 PACKAGE = pathlib.Path(__file__).resolve().parent.parent / "strangerbench"
 LIBRARY = ("heapq", "math", "itertools", "collections", "__future__")
+BUILTINS = (
+    "len range enumerate zip min max sum abs sorted reversed int str bool bytes list tuple dict set frozenset isinstance "
+    "ord repr any all divmod pow type ValueError LookupError"
+).split()
+METHODS = (
+    "append clear copy count endswith extend find get index insert isalnum isalpha isdigit islower isspace isupper items "
+    "join keys ljust lower lstrip partition pop remove replace reverse rfind rjust rpartition rsplit rstrip setdefault "
+    "split splitlines startswith strip update upper values zfill bit_length add discard"
+).split()
+NOWHERE = "register mro elements open input law version_info with_traceback add_note".split()
 BARRED = (ast.AsyncFunctionDef, ast.AsyncFor, ast.AsyncWith, ast.Await, ast.Div, ast.Import)
 
 
@@ -45,6 +56,55 @@ class TestLanguage(unittest.TestCase):
                     self.assertNotIn("*", [name.name for name in node.names], path)
                     own = node.module.startswith("strangerbench.")
                     self.assertTrue(own or node.module in LIBRARY, (path, node.module))
+
+    def test_no_files_import_from_each_other(self):
+        needs = {}
+        for path, text in self.texts.items():
+            froms = [node.module for node in ast.walk(ast.parse(text)) if isinstance(node, ast.ImportFrom)]
+            needs[path.stem] = [name.split(".")[1] for name in froms if name.startswith("strangerbench.")]
+        settled = set()
+        while len(settled) < len(needs):
+            more = [name for name in needs if name not in settled and settled.issuperset(needs[name])]
+            self.assertNotEqual(more, [])
+            settled.update(more)
+
+    def bound_names(self, tree):
+        """The names that are imported, those of functions and classes, and all others that are assigned."""
+        imported, defined, assigned = set(), set(), set()
+        for node in ast.walk(tree):
+            if isinstance(node, ast.ImportFrom):
+                imported.update([name.name for name in node.names])
+            elif isinstance(node, (ast.FunctionDef, ast.ClassDef)):
+                defined.add(node.name)
+            elif isinstance(node, ast.arg):
+                assigned.add(node.arg)
+            elif isinstance(node, ast.Name) and isinstance(node.ctx, ast.Store):
+                assigned.add(node.id)
+        return imported, defined, assigned
+
+    def test_names(self):
+        for path, text in self.texts.items():
+            imported, defined, assigned = self.bound_names(ast.parse(text))
+            self.assertEqual((imported | defined) & assigned, set(), path)
+            self.assertEqual(imported & defined, set(), path)
+            for name in (imported | defined | assigned) - {"__init__"}:
+                self.assertFalse(hasattr(builtins, name), (path, name))
+                self.assertNotIn(name, NOWHERE, path)
+
+    def test_builtins_and_methods(self):
+        for path, text in self.texts.items():
+            tree = ast.parse(text)
+            for node in ast.walk(tree):
+                if isinstance(node, ast.Name) and hasattr(builtins, node.id):
+                    self.assertIn(node.id, BUILTINS, path)
+                if isinstance(node, ast.Call) and isinstance(node.func, ast.Attribute):
+                    self.assertIn(node.func.attr, METHODS, path)
+
+    def test_signs_in_strings(self):
+        for path, text in self.texts.items():
+            for node in ast.walk(ast.parse(text)):
+                if isinstance(node, ast.Constant) and type(node.value) is str:
+                    self.assertNotIn("%", node.value, path)
 
 
 if __name__ == "__main__":

@@ -14,11 +14,19 @@ from strangerbench.matterkinds import VERDICTS
 from strangerbench.notes import note_of
 from strangerbench.paths import path_voices, root_of
 from strangerbench.sway import most_of
+from strangerbench.townacts import acted
 from strangerbench.townlooks import held_twice, mine_at
 from strangerbench.townrows import done
 
 TOWNS = RULE[0]
 PAIRS = pairs_of(HANDS)
+
+
+def act_of(deed):
+    """The act that comes to the deed; None of a note, which is read by its name."""
+    if deed[0] == "note":
+        return None
+    return deed[:1] + deed[2:] if deed[0] in ("open", "seat") else deed
 
 
 class Towns:
@@ -46,15 +54,24 @@ class Towns:
 
     def do(self, town, deed):
         """Does the deed, where it is not refused."""
+        act = act_of(deed)
         if self.is_wary(town) and deed[0] in ("open", "seat", "note"):
+            if act is not None:
+                told = refusal(acted, RULE, self.chests[town], act, day=self.day)
+                self.case.assertEqual(told, ("NoDeed", "wary"))
             return
         book, *others = self.chests[town]
         try:
-            behind, _ = done(RULE, book, deed)
+            behind, told = done(RULE, book, deed)
         except (BenchError, LackError) as refused:
             self.count(type(refused).__name__)
+            if act is not None:
+                self.case.assertEqual(refusal(acted, RULE, self.chests[town], act, day=self.day),
+                                      refusal(done, RULE, book, deed))
             return
         self.count(deed[0])
+        if act is not None:
+            self.case.assertEqual(acted(RULE, self.chests[town], act, day=self.day), ((behind, *others), told, ()))
         self.put(town, (behind, *others))
 
     def give(self, town, pair, to):
@@ -63,7 +80,10 @@ class Towns:
         if self.is_wary(town) or not is_mine(book[2], town, pair):
             return
         rights, letter = given_to(book[2], town, pair, to, rise=book[1])
-        self.put(town, (book[:2] + (rights,) + book[3:], *others))
+        behind = (book[:2] + (rights,) + book[3:], *others)
+        told = acted(RULE, self.chests[town], ("give", pair, to), day=self.day)
+        self.case.assertEqual(told, (behind, None, (letter,)))
+        self.put(town, behind)
         self.last_given[pair] = letter
         self.send(letter)
 
@@ -71,20 +91,23 @@ class Towns:
         rights = self.chests[town][0][2]
         if self.is_wary(town) or row_of(rights, town, pair)[3] != town or row_of(rights, town, pair)[2] == town:
             return
-        self.send(letter_of(rights, town, pair))
+        chest, _, letters = acted(RULE, self.chests[town], ("send", pair), day=self.day)
+        self.case.assertEqual((chest, letters), (self.chests[town], (letter_of(rights, town, pair),)))
+        self.send(letters[0])
 
     def send(self, letter):
         self.case.assertIs(is_letter(letter), True)
         self.mail.append(letter)
 
     def tell_note(self, town, name, to):
-        self.send(("note", town, to, note_of(self.chests[town][0][3], name)))
+        chest, _, letters = acted(RULE, self.chests[town], ("note", name, to), day=self.day)
+        self.case.assertEqual((chest, letters[0][3]), (self.chests[town], note_of(chest[0][3], name)))
+        self.send(letters[0])
 
     def ask(self, town):
         if self.is_wary(town):
-            for other in TOWNS:
-                if other != town:
-                    self.send(("ask", town, other, self.chests[town][1]))
+            for letter in acted(RULE, self.chests[town], ("ask",), day=self.day)[2]:
+                self.send(letter)
 
     def come(self, letter):
         town = letter[2]
