@@ -97,6 +97,12 @@ def is_of(kind, thing):
     """Whether the thing is of the kind that is called so."""
     if kind == "count":
         return is_count(thing)
+    if kind == "number":
+        return type(thing) is int
+    if kind == "saved":
+        return thing is None or type(thing) is int
+    if kind == "here":
+        return type(thing) is bool
     if kind == "town":
         return is_word(thing)
     if kind == "hand":

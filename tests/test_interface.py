@@ -63,16 +63,35 @@ INTERFACE = {
     "packchecker": {"lets_packing": "call thing * most=35"},
     "townacts": {"acted": "rule chest act * day"},
     "bringing": {"where_lies": "tells pair", "brought": "tells town hands * day seats"},
+    "roundchecker": {"lets_round": "town tells thing * heard"},
+    "rightreadings": {"rights_read": "text"},
+    "resting": {"rests_on": "matters name", "shaken": "matters * news=()"},
+    "shaking": {"shake_paper": "matters name * news=()"},
+    "shakechecker": {"lets_shaken": "matters name thing * news=()"},
+    "replaying": {"replayed": "log"},
+    "worldlogs": {"is_log": "thing"},
+    "worldtexts": {"deed_line": "row", "log_lines": "log"},
     "errors": {},
+}
+# Of each class the methods, as they are called off an object.
+CLASSES = {
+    "worlds": {
+        "World": {
+            "__init__": "rule", "to_day": "day", "do_act": "town act", "let_come": "n", "save_town": "town",
+            "fall": "town n=None", "day_now": "", "chest_of": "town", "is_wary": "town", "saved_many": "town",
+            "mail": "", "burnings_ever": "", "table_ever": "", "log": "", "__len__": "", "__str__": "",
+            "__eq__": "other", "__ne__": "other", "undo": "", "do_all": "rows * keep=False", "walks": "",
+        },
+    },
 }
 REFUSALS = ("BenchError", "LackError", "NoPaper", "NoRight", "NoMatter", "NoDeed", "NoText", "NoMore", "NoRow",
             "NoTown", "NoHand", "NoName", "NoStep")
 
 
-def arguments_of(function):
-    """The arguments as the table above tells them."""
+def arguments_of(function, behind=0):
+    """The arguments as the table above tells them, but for so many ahead."""
     words, by_name = [], False
-    for one in inspect.signature(function).parameters.values():
+    for one in list(inspect.signature(function).parameters.values())[behind:]:
         if one.kind == one.KEYWORD_ONLY and not by_name:
             words.append("*")
             by_name = True
@@ -88,6 +107,16 @@ class TestInterface(unittest.TestCase):
                 function = getattr(module, name)
                 self.assertEqual(function.__module__, module.__name__, name)
                 self.assertEqual(arguments_of(function), arguments, name)
+
+    def test_classes(self):
+        for file, classes in CLASSES.items():
+            module = importlib.import_module("strangerbench." + file)
+            for name, methods in classes.items():
+                own = getattr(module, name)
+                self.assertEqual(own.__module__, module.__name__, name)
+                for method, arguments in methods.items():
+                    # It is defined in the class itself.
+                    self.assertEqual(arguments_of(vars(own)[method], behind=1), arguments, method)
 
     def test_refusals(self):
         module = importlib.import_module("strangerbench.errors")

@@ -69,12 +69,13 @@ class TestLanguage(unittest.TestCase):
             settled.update(more)
 
     def bound_names(self, tree):
-        """The names that are imported, those of functions and classes, and all others that are assigned."""
+        """The names that are imported, those of functions and classes, and all others that are assigned; no methods."""
         imported, defined, assigned = set(), set(), set()
+        methods = [one for node in ast.walk(tree) if isinstance(node, ast.ClassDef) for one in node.body]
         for node in ast.walk(tree):
             if isinstance(node, ast.ImportFrom):
                 imported.update([name.name for name in node.names])
-            elif isinstance(node, (ast.FunctionDef, ast.ClassDef)):
+            elif isinstance(node, (ast.FunctionDef, ast.ClassDef)) and node not in methods:
                 defined.add(node.name)
             elif isinstance(node, ast.arg):
                 assigned.add(node.arg)
@@ -87,18 +88,35 @@ class TestLanguage(unittest.TestCase):
             imported, defined, assigned = self.bound_names(ast.parse(text))
             self.assertEqual((imported | defined) & assigned, set(), path)
             self.assertEqual(imported & defined, set(), path)
-            for name in (imported | defined | assigned) - {"__init__"}:
+            for name in [one for one in imported | defined | assigned if not one.startswith("__")]:
                 self.assertFalse(hasattr(builtins, name), (path, name))
                 self.assertNotIn(name, NOWHERE, path)
 
+    def own_methods(self):
+        """The methods of all classes of the package."""
+        classes = [node for text in self.texts.values() for node in ast.walk(ast.parse(text))
+                   if isinstance(node, ast.ClassDef)]
+        return {node.name for one in classes for node in one.body if isinstance(node, ast.FunctionDef)}
+
+    def test_methods_of_classes(self):
+        for path, text in self.texts.items():
+            for node in ast.walk(ast.parse(text)):
+                if isinstance(node, ast.FunctionDef) and node.name.startswith("__"):
+                    self.assertIn(node.name, ("__init__", "__len__", "__str__", "__eq__", "__ne__"), path)
+                if isinstance(node, ast.ClassDef):
+                    attributes = {one.attr for one in ast.walk(node) if isinstance(one, ast.Attribute)
+                                  and isinstance(one.ctx, ast.Store)}
+                    self.assertEqual(attributes & self.own_methods(), set(), path)
+
     def test_builtins_and_methods(self):
+        own = self.own_methods()
         for path, text in self.texts.items():
             tree = ast.parse(text)
             for node in ast.walk(tree):
                 if isinstance(node, ast.Name) and hasattr(builtins, node.id):
                     self.assertIn(node.id, BUILTINS, path)
                 if isinstance(node, ast.Call) and isinstance(node.func, ast.Attribute):
-                    self.assertIn(node.func.attr, METHODS, path)
+                    self.assertTrue(node.func.attr in METHODS or node.func.attr in own, (path, node.func.attr))
 
     def test_signs_in_strings(self):
         for path, text in self.texts.items():
