@@ -45,12 +45,14 @@ class World:
 
     def day_now(self):
         """The day."""
-        return self._states[-1][0]
+        day, _, _, _, _, _ = self._states[-1]
+        return day
 
     def chest_of(self, town):
         """What the town has."""
         check_town(self._rule, town)
-        return self._states[-1][1][town]
+        _, chests, _, _, _, _ = self._states[-1]
+        return chests[town]
 
     def is_wary(self, town):
         """Whether the town is wary."""
@@ -59,16 +61,18 @@ class World:
     def saved_many(self, town):
         """How many are saved of the town."""
         check_town(self._rule, town)
-        return len(self._states[-1][2][town])
+        _, _, saved, _, _, _ = self._states[-1]
+        return len(saved[town])
 
     def mail(self):
         """All letters ever sent, in order."""
-        return self._states[-1][3]
+        _, _, _, mail, _, _ = self._states[-1]
+        return mail
 
     def burnings_ever(self):
         """All burnings that were ever done: a rising tuple."""
         _, _, _, _, burnings, _ = self._states[-1]
-        return tuple(sorted(burnings))
+        return burnings
 
     def table_ever(self):
         """Of each matter that ever was the root and the most voices of its path, like ones once: a rising tuple."""
@@ -118,11 +122,11 @@ class World:
 
 
 def first_state(rule):
-    """What is so ahead of all rows: the day, chests, saved ones, mail, burnings ever, and the table ever."""
+    """What is so ahead of all rows: the day, chests, saved ones, mail, burnings ever, by name the table ever."""
     towns = rule[0]
     chests = {town: first_chest(rule, town) for town in towns}
     saved = {town: (saved_of(chests[town]),) for town in towns}
-    return (0, chests, saved, (), {}, {})
+    return (0, chests, saved, (), (), {})
 
 
 def check_town(rule, town):
@@ -140,29 +144,34 @@ def behind_row(rule, state, row):
         return letter_come(rule, state, row[1])
     check_town(rule, row[1])
     if word == "act":
-        _, town, act = row
-        chest, told, letters = acted(rule, state[1][town], act, day=state[0])
-        return (with_chest(state, town, chest, letters), told)
+        return town_acted(rule, state, row[1], row[2])
     if word == "save":
         return town_saved(state, row[1])
-    _, town, n = row
-    return town_risen(rule, state, town, n)
+    return town_risen(rule, state, row[1], row[2])
 
 
 def day_turned(state, day):
     """The state on this day, which is none of those gone by."""
-    if day < state[0]:
+    former, chests, saved, mail, burnings, table = state
+    if day < former:
         raise NoDeed("day")
-    return (day,) + state[1:]
+    return (day, chests, saved, mail, burnings, table)
 
 
 def letter_come(rule, state, n):
     """The state behind the coming of the letter of this number, and the word for it."""
-    mail = state[3]
+    _, chests, _, mail, _, _ = state
     check_number(n, mail)
     town = mail[n][2]
-    chest, word, letters = came(rule, state[1][town], mail[n])
+    chest, word, letters = came(rule, chests[town], mail[n])
     return (with_chest(state, town, chest, letters), word)
+
+
+def town_acted(rule, state, town, act):
+    """The state behind the town's act, and what that tells."""
+    day, chests, _, _, _, _ = state
+    chest, told, letters = acted(rule, chests[town], act, day=day)
+    return (with_chest(state, town, chest, letters), told)
 
 
 def town_saved(state, town):
@@ -196,19 +205,21 @@ def with_chest(state, town, chest, letters):
     """The state in which the town has this chest, what it sent lies behind the mail, and nothing is forgotten."""
     day, chests, saved, mail, burnings, table = state
     ahead, book = chests[town][0], chest[0]
-    burnings = {**burnings, **{burning: True for burning in book[4]}}
-    table = {**table, **more_voices(table, ahead[3], book[3])}
+    if book[4] != ahead[4]:
+        burnings = tuple(sorted(set(burnings + book[4])))
+    if book[3] != ahead[3]:
+        table = most_voices(table, ahead[3], book[3])
     return (day, {**chests, town: chest}, saved, mail + letters, burnings, table)
 
 
-def more_voices(table, ahead, matters):
-    """Of each matter that isn't as ahead its root and the voices of its path, where these are more than ever."""
-    more = {}
+def most_voices(table, ahead, matters):
+    """Of each name that ever was its root, and the most voices of its path, with those that aren't as ahead."""
+    most = {name: table[name] for name in table}
     for matter in matters:
         name = matter[0]
         if matter not in ahead:
             voices = path_voices(matters, name)
             # An elder book may have forgotten some of those that were heard.
-            if name not in table or len(voices) > len(table[name][1]):
-                more[name] = (root_of(matters, name), voices)
-    return more
+            if name not in most or len(voices) > len(most[name][1]):
+                most[name] = (root_of(matters, name), voices)
+    return most

@@ -249,8 +249,8 @@ class Going:
                     and lacks(RULE, book, name, note[1], day=self.world.day_now()) is None]
             return ("read", name, chance.choice([note[0] for note in able * 9 + known] or [("elm", 9, 9)]))
         if kind < 13:
-            able = [hand for hand, lack in each_alone(RULE, book, name, HANDS, day=self.world.day_now()) if lack is None]
-            able = [hand for hand in able if hand not in sitters]
+            alone = each_alone(RULE, book, name, HANDS, day=self.world.day_now())
+            able = [hand for hand, lack in alone if lack is None and hand not in sitters]
             return ("seat", name, chance.choice(able * 3 + list(HANDS)))
         if kind < 19 and sitters:
             silent = [hand for hand in sitters if hand not in [vote[0] for vote in votes]]

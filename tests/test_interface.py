@@ -1,6 +1,7 @@
 """The names of the interface: where each is defined, and which arguments it takes."""
 import importlib
 import inspect
+import pathlib
 import unittest
 
 # Behind the * stand those that go by name alone; what follows = may be left out.
@@ -71,6 +72,12 @@ INTERFACE = {
     "replaying": {"replayed": "log"},
     "worldlogs": {"is_log": "thing"},
     "worldtexts": {"deed_line": "row", "log_lines": "log"},
+    "sources": {"source_of": "matters name hand"},
+    "sourcechecker": {"lets_source": "matters name hand thing"},
+    "tables": {"table_of": "matters", "lacking": "table burnings"},
+    "twice": {"twice_paper": "rule burnings"},
+    "twicechecker": {"lets_twice": "rule burnings thing"},
+    "worldreadings": {"read_row": "text", "read_log": "lines"},
     "errors": {},
 }
 # Of each class the methods, as they are called off an object.
@@ -83,6 +90,7 @@ CLASSES = {
             "__eq__": "other", "__ne__": "other", "undo": "", "do_all": "rows * keep=False", "walks": "",
         },
     },
+    "worlddesk": {"Desk": {"__init__": "", "say": "row"}},
 }
 REFUSALS = ("BenchError", "LackError", "NoPaper", "NoRight", "NoMatter", "NoDeed", "NoText", "NoMore", "NoRow",
             "NoTown", "NoHand", "NoName", "NoStep")
@@ -107,6 +115,12 @@ class TestInterface(unittest.TestCase):
                 function = getattr(module, name)
                 self.assertEqual(function.__module__, module.__name__, name)
                 self.assertEqual(arguments_of(function), arguments, name)
+
+    def test_all_modules(self):
+        # Each module of the package is one of the interface.
+        folder = pathlib.Path(__file__).resolve().parent.parent / "strangerbench"
+        names = sorted([path.stem for path in folder.glob("*.py")])
+        self.assertEqual(names, sorted(list(INTERFACE) + list(CLASSES) + ["__init__"]))
 
     def test_classes(self):
         for file, classes in CLASSES.items():

@@ -87,7 +87,8 @@ class TestShaken(RestCase):
     def test_of_a_matter_without_a_verdict(self):
         # Nothing is known of it then, whatever news there are.
         for end in (None, "laid", "broken"):
-            self.shook((matter(A, end=end), matter(B, [note(A, "no")]), matter(C, [note(A)])), (), (note(A), note(A, "no")))
+            matters = (matter(A, end=end), matter(B, [note(A, "no")]), matter(C, [note(A)]))
+            self.shook(matters, (), (note(A), note(A, "no")))
 
     def test_by_news(self):
         matters = (matter(A, [note(X)]), matter(B, [note(Y, "no")]))

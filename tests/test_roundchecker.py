@@ -39,7 +39,8 @@ class TestLetBy(RoundCase):
         for town, paper in (("elm", PAPER), ("oak", OTHER)):
             self.assertEqual(round_paper(town, TELLS, heard=HEARD), paper)
             self.let_by(town, TELLS, paper)
-            self.assertEqual(rounded_by(town, TELLS, paper, heard=HEARD, span=7), rounded(town, TELLS, heard=HEARD, span=7))
+            told = rounded_by(town, TELLS, paper, heard=HEARD, span=7)
+            self.assertEqual(told, rounded(town, TELLS, heard=HEARD, span=7))
 
     def test_the_void_one(self):
         void = tuple([(town, (0, 0, ())) for town in TOWNS])
@@ -65,8 +66,8 @@ class TestShape(RoundCase):
 
     def test_triples(self):
         for at in range(4):
-            for triple in (list(PAPER[at]), PAPER[at][:2], PAPER[at] + ("oak",), PAPER[at] + (None,), None, (), 0, "away",
-                           with_part(PAPER[at], 0, list(PAPER[at][0])), with_part(PAPER[at], 0, PAPER[at][0][::-1]),
+            for triple in (list(PAPER[at]), PAPER[at][:2], PAPER[at] + ("oak",), PAPER[at] + (None,), None, (), 0,
+                           "away", with_part(PAPER[at], 0, list(PAPER[at][0])), with_part(PAPER[at], 0, PAPER[at][0][::-1]),
                            with_part(PAPER[at], 0, (ANN, ANN)), with_part(PAPER[at], 0, ANN),
                            with_part(PAPER[at], 0, None), with_part(PAPER[at], 0, (ANN, BOB, CAT)),
                            with_part(PAPER[at], 0, (ANN, ("oak", "Bob")))):

@@ -56,8 +56,8 @@ class TestRules(LogCase):
     def test_towns(self):
         good = (("elm",), ("elm", "oak"), ("a", "abcdefgh", "b", "c", "d", "e"))
         self.check_rules([with_part(RULE, 0, towns) for towns in good], True)
-        bad = ((), ["elm"], "elm", ("oak", "elm"), ("elm", "elm"), (None,), ("elm", None), ("Elm",), ("",), (0, 1), None,
-               ("elm", "abcdefghi"), (("elm",),), (True,))
+        bad = ((), ["elm"], "elm", ("oak", "elm"), ("elm", "elm"), (None,), ("elm", None), ("Elm",), ("",), (0, 1),
+               None, ("elm", "abcdefghi"), (("elm",),), (True,))
         self.check_rules([with_part(RULE, 0, towns) for towns in bad], False)
 
     def test_seats_and_needed(self):
