@@ -205,21 +205,19 @@ def with_chest(state, town, chest, letters):
     """The state in which the town has this chest, what it sent lies behind the mail, and nothing is forgotten."""
     day, chests, saved, mail, burnings, table = state
     ahead, book = chests[town][0], chest[0]
-    if book[4] != ahead[4]:
+    if book[3:] != ahead[3:]:
         burnings = tuple(sorted(set(burnings + book[4])))
-    if book[3] != ahead[3]:
-        table = most_voices(table, ahead[3], book[3])
+        table = most_voices(table, book[3])
     return (day, {**chests, town: chest}, saved, mail + letters, burnings, table)
 
 
-def most_voices(table, ahead, matters):
-    """Of each name that ever was its root, and the most voices of its path, with those that aren't as ahead."""
+def most_voices(table, matters):
+    """Of each name that ever was its root, and the most voices that its path ever had, by these matters, too."""
     most = {name: table[name] for name in table}
     for matter in matters:
         name = matter[0]
-        if matter not in ahead:
-            voices = path_voices(matters, name)
-            # An elder book may have forgotten some of those that were heard.
-            if name not in most or len(voices) > len(most[name][1]):
-                most[name] = (root_of(matters, name), voices)
+        voices = path_voices(matters, name)
+        # An elder book may have forgotten some of those that were heard.
+        if name not in most or len(voices) > len(most[name][1]):
+            most[name] = (root_of(matters, name), voices)
     return most
