@@ -19,6 +19,16 @@ NO_WORDS = (None, 0, True, "", "Elm", "abcdefghi", "elm1", ("elm",), ["elm"], AN
 NO_COUNTS = (None, -1, True, False, "0", (0,), [0], ())
 
 
+def turned(thing):
+    """The thing with one place otherwise, at any depth, by which it is of no kind any more."""
+    if type(thing) is not tuple:
+        return {int: (True, False, None, "0", (0,)), str: ("Elm!", 0, None, True), type(None): (True, 0, "")}[type(thing)]
+    others = [list(thing), thing + (None,), thing[:-1] + (None, None)]
+    for at, part in enumerate(thing):
+        others.extend([with_part(thing, at, other) for other in turned(part)])
+    return others
+
+
 class LogCase(unittest.TestCase):
     def is_row(self, row, told):
         """Whether it may stand behind others, and ahead of others."""
@@ -84,6 +94,16 @@ class TestRows(LogCase):
                 self.is_row(other, False)
             for word in ("", "Day", "world", "fall", "undo", None, 0, (), ["day"], ("day",)):
                 self.is_row((word,) + row[1:], False)
+
+    def test_one_place_otherwise(self):
+        # A lower one, or a saved one, may be None, and a saved one a number.
+        still = [repr(row) for row in (("rise", "elm", None), ("rise", "elm", 0), ("act", "elm", ("open", None, ())))]
+        for row in ROWS:
+            for other in turned(row):
+                if repr(other) not in still:
+                    self.is_row(other, False)
+        for other in turned(WORLD):
+            check_look(self, is_log, (other,), False)
 
     def test_days(self):
         self.is_row(("day", 10 ** 60), True)
